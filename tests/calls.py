@@ -35,17 +35,38 @@ def piece(place, text, name=0):
     return [2, place, 16] + name_of(name) + [len(row)] + row
 
 
+def ack(place, name=0):
+    return [3, place, 16] + name_of(name)
+
+
+def closed(name=0):
+    return [4, 16] + name_of(name)
+
+
+def state(name=0):
+    return [5, 16] + name_of(name)
+
+
 def joined(calls):
     return [number for call in calls for number in call]
 
 
-def numbers_answered(flat):
-    """The number of each answer; all answers here are of the form 0."""
-    if len(flat) % 3 != 0 or flat[0::3] != [2] * (len(flat) // 3) or any(flat[1::3]):
-        raise AssertionError(f"not answers of two numbers each, of the form 0: {flat}")
-    return flat[2::3]
+def answers_told(flat):
+    """Each answer in turn: its number, or the four numbers of a state as a tuple."""
+    told, at = [], 0
+    while at < len(flat):
+        size = flat[at]
+        answer = flat[at + 1:at + 1 + size]
+        if size == 2 and len(answer) == 2 and answer[0] == 0:
+            told.append(answer[1])
+        elif size == 6 and len(answer) == 6 and answer[:2] == [1, 4]:
+            told.append(tuple(answer[2:]))
+        else:
+            raise AssertionError(f"not an answer, from number {at} on: {flat[at:at + 8]}")
+        at += 1 + size
+    return told
 
 
 def ask(*calls):
     """What the calls, on one new object, are answered."""
-    return numbers_answered(answers(joined(calls)))
+    return answers_told(answers(joined(calls)))

@@ -2,8 +2,7 @@
 
 import unittest
 
-from tests.calls import ask, bytes_of, name_of, opened, piece, start, word
-from watchedline.line import Line
+from tests.calls import ask, opened, piece, start, word
 
 ROUND = 4294967296
 
@@ -204,39 +203,6 @@ class Found(unittest.TestCase):
         calls = (start(0, word("ABCD")), opened(ROUND - 100), piece(1, "CD"), piece(ROUND - 1, "AB"), piece(0, "B"),
                  piece(0, "X"), piece(ROUND - 1, "A"))
         self.assertEqual(ask(*calls), [0, 0, 0, 1, 0, -17, 1])
-
-
-class BytesBeforeTheBase(unittest.TestCase):
-    """The last 15 bytes before the base count for words that go on behind it."""
-
-    def line(self, limit, text, before):
-        line = Line()
-        self.assertEqual(line.fl_start(limit, word(text)), 0)
-        self.assertEqual(line.fl_open(50, name_of(0)), 0)
-        line.streams[tuple(name_of(0))].before = bytes_of(before)
-        return line
-
-    def tell(self, line, place, text):
-        return line.fl_piece(place, name_of(0), bytes_of(text))
-
-    def test_a_word_over_the_base(self):
-        text = "ABCDEFGHIJKLMNOP"
-        for size in range(1, 16):
-            line = self.line(0, text, text[:size])
-            self.assertEqual(self.tell(line, 50, text[size:]), 1)
-            self.assertEqual(self.tell(line, 50, text[size:-1] + "X"), 0)
-
-    def test_a_word_that_begins_at_the_base(self):
-        text = "ABCDEFGHIJKLMNOP"
-        for before in ("", "X", "X" * 15):
-            line = self.line(0, text, before)
-            self.assertEqual(self.tell(line, 51, text[1:]), 0)
-            self.assertEqual(self.tell(line, 50, "A"), 1)
-            self.assertEqual(self.tell(line, 50, "X"), 0)
-
-    def test_a_word_within_them_is_not_found_anew(self):
-        line = self.line(1, "AB", "ABABAB")
-        self.assertEqual([self.tell(line, 50, "AB"), self.tell(line, 48, "ABAB"), self.tell(line, 52, "AB")], [0, 0, 1])
 
 
 if __name__ == "__main__":

@@ -42,7 +42,7 @@ class Line:
     def fl_piece(self, place, name, b):
         if len(b) < 1 or len(b) > LONGEST_PIECE:
             return NOT_AS_TOLD
-        stream = self.streams.get(tuple(name))
+        stream = self.stream_of(name)
         if stream is None:
             return NO_SUCH_STREAM
         distance = stream.ahead(place)
@@ -51,6 +51,36 @@ class Line:
         # Old bytes aren't looked at, so only what's from the base on is told.
         told = b[max(0, -distance):]
         return self.take_in(stream, max(0, distance), told)
+
+    def fl_ack(self, place, name):
+        stream = self.stream_of(name)
+        if stream is None:
+            return NO_SUCH_STREAM
+        distance = stream.ahead(place)
+        # One that comes late says less than was said before, and takes nothing back.
+        if distance < 0:
+            return DONE
+        if distance > stream.known_without_gap():
+            return TOO_FAR
+        stream.move_base(distance)
+        return DONE
+
+    def fl_close(self, name):
+        if self.stream_of(name) is None:
+            return NO_SUCH_STREAM
+        self.streams.pop(tuple(name))
+        return DONE
+
+    def fl_state(self, name):
+        stream = self.stream_of(name)
+        if stream is None:
+            return NO_SUCH_STREAM
+        weight = weight_of(self.words, stream.found)
+        return [stream.base, weight, stream.known_without_gap(), stream.known_in_all()]
+
+    def stream_of(self, name):
+        """The stream of that name, None if there's no such stream."""
+        return self.streams.get(tuple(name))
 
     def take_in(self, stream, start, told):
         """Make the told bytes known, unless they're told otherwise or what's found gets too heavy."""

@@ -1,13 +1,13 @@
 """One stream: what is known of it from its base on, and what was found in it."""
 
-from watchedline.words import LONGEST_WORD, UNKNOWN, times_of_each
+from watchedline.words import UNKNOWN, times_of_each
 
 ROUND = 4294967296
 HALF_ROUND = 2147483648
 PLACES = 4096
 
-# A word that holds a byte reaches at most so far before or behind it.
-REACH = LONGEST_WORD - 1
+# A word has 16 bytes at most, so one that holds a byte reaches at most so far before or behind it.
+REACH = 15
 
 
 class Stream:
@@ -27,6 +27,21 @@ class Stream:
         """Whether a byte that's known, from start on, differs from what's told there."""
         held = self.known[start:start + len(told)]
         return any([old != UNKNOWN and old != new for old, new in zip(held, told)])
+
+    def known_without_gap(self):
+        """How many bytes are known from the base on, up to the first that isn't."""
+        return self.known.index(UNKNOWN) if UNKNOWN in self.known else PLACES
+
+    def known_in_all(self):
+        """How many bytes are known from the base on, behind gaps too."""
+        return PLACES - self.known.count(UNKNOWN)
+
+    def move_base(self, steps):
+        """Lay the base so many places ahead; all bytes up to there are known."""
+        # A word that isn't found yet has a byte behind these, so it reaches no further back.
+        self.before = (self.before + self.known[:steps])[-REACH:]
+        self.known = self.known[steps:] + [UNKNOWN] * steps
+        self.base = (self.base + steps) % ROUND
 
     def known_with(self, start, told):
         """What would be known if these bytes were, from start on."""

@@ -1,12 +1,16 @@
 """The watcher over a list of numbers: calls go in, answers come out."""
 
-from watchedline.line import Line
+from watchedline.line import NO_SUCH_STREAM, Line
 
 FL_START = 0
 FL_OPEN = 1
 FL_PIECE = 2
+FL_ACK = 3
+FL_CLOSE = 4
+FL_STATE = 5
 
 NUMBER_FORM = 0
+STATE_FORM = 1
 
 
 class UnknownCall(ValueError):
@@ -54,6 +58,25 @@ def answer_piece(line, reader):
     return [NUMBER_FORM, line.fl_piece(place, name, b)]
 
 
+def answer_ack(line, reader):
+    place = reader.read_number()
+    name = reader.read_row()
+    return [NUMBER_FORM, line.fl_ack(place, name)]
+
+
+def answer_close(line, reader):
+    name = reader.read_row()
+    return [NUMBER_FORM, line.fl_close(name)]
+
+
+def answer_state(line, reader):
+    name = reader.read_row()
+    out = line.fl_state(name)
+    if out == NO_SUCH_STREAM:
+        return [NUMBER_FORM, out]
+    return [STATE_FORM, len(out)] + out
+
+
 def answer_call(line, reader):
     """Read one call, do it, and give back its answer: the form, and what's told."""
     call = reader.read_number()
@@ -63,6 +86,12 @@ def answer_call(line, reader):
         return answer_open(line, reader)
     if call == FL_PIECE:
         return answer_piece(line, reader)
+    if call == FL_ACK:
+        return answer_ack(line, reader)
+    if call == FL_CLOSE:
+        return answer_close(line, reader)
+    if call == FL_STATE:
+        return answer_state(line, reader)
     raise UnknownCall(f"no call has the number {call}")
 
 
